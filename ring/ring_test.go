@@ -24,7 +24,7 @@ func TestPrime(t *testing.T) { // 39.1
 			t.Fatal(n)
 		}
 	}
-	if Prime(-7) || Prime(math.MinInt) || !Prime(1<<31-1) || Prime(math.MaxInt) || Prime((1<<31-1)*(1<<31-1)) || MaxSize != 65537 {
+	if Prime(-7) || Prime(math.MinInt) || !Prime(1<<31-1) || Prime(math.MaxInt) || Prime(1000003*1000003) || MaxSize != 65537 {
 		t.Fatal("edges")
 	}
 }
