@@ -4,6 +4,7 @@ import (
 	"bytes"
 	"math"
 	"reflect"
+	"slices"
 	"testing"
 
 	"distributary/addr"
@@ -149,6 +150,7 @@ func TestParse(t *testing.T) { // 9.3
 	long := func(next byte) []byte {
 		return raw(60, append(bytes.Clone(eight), ext(next, Ext{60, data(0, 0)})...)...)
 	}
+	ninth := raw(60, slices.Concat(eight, ext(60, Ext{60, data(0, 0)}), ext(17, Ext{60, data(0, 0)}))...)
 	short := raw(60, ext(17, Ext{60, data(1, 0)})...)
 	for i, c := range []struct {
 		b           []byte
@@ -161,7 +163,7 @@ func TestParse(t *testing.T) { // 9.3
 		{raw(44, ext(17, Ext{44, data(9, 0)})[:8]...), api.OK, api.OK, 0},
 		{raw(60, append(ext(0, Ext{60, data(0, 0)}), ext(17, Ext{0, data(0, 0)})...)...), api.ErrHeader, api.ErrHeader, 0},
 		{raw(0, append(ext(0, Ext{0, data(0, 0)}), ext(17, Ext{0, data(0, 0)})...)...), api.ErrHeader, api.ErrHeader, 0},
-		{long(17), api.OK, api.OK, 0}, {long(60), api.ErrHeader, api.ErrHeader, 0}, {long(43), api.ErrHeader, api.ErrHeader, 0},
+		{long(17), api.OK, api.OK, 0}, {long(60), api.ErrHeader, api.ErrHeader, 0}, {long(43), api.ErrHeader, api.ErrHeader, 0}, {ninth, api.ErrHeader, api.ErrHeader, 0},
 		{raw(44, ext(60, part(1, true))...), api.ErrHeader, api.ErrHeader, 0}, {raw(44, ext(6, part(1, true))...), api.OK, api.OK, 0},
 		{raw(44, append(ext(60, part(0, true)), ext(17, Ext{60, data(0, 0)})...)...), api.OK, api.OK, 0},
 		{raw(44, append(append(ext(44, part(0, true)), ext(43, part(9, true))...), ext(17, Ext{43, data(0, 0)})...)...), api.OK, api.OK, 0},
