@@ -65,7 +65,7 @@ func TestParseErrors(t *testing.T) { // 18.1
 		want api.Errno
 	}{
 		{"hosts a", api.ErrWord}, {"Factor 100", api.ErrWord}, {"factor", api.ErrForm}, {"factor 100 100", api.ErrForm}, {"factor 99", api.ErrRange}, {"factor 1001", api.ErrRange}, {"factor x", api.ErrRange}, {"factor 0100", api.ErrRange},
-		{"factor 100", api.OK}, {"factor 1000", api.OK}, {"factor 100\nfactor 100", api.ErrTwice}, {"factor 100\nfactor 99", api.ErrRange}, {"domain", api.ErrForm}, {"domain zone zone", api.ErrForm}, {"domain host", api.ErrForm}, {"domain Zone", api.ErrForm},
+		{"factor 100", api.OK}, {"factor 1000", api.OK}, {"factor 100\nfactor 100", api.ErrTwice}, {"factor 100\nfactor 200", api.ErrTwice}, {"factor 100\nfactor 99", api.ErrRange}, {"domain", api.ErrForm}, {"domain zone zone", api.ErrForm}, {"domain host", api.ErrForm}, {"domain Zone", api.ErrForm},
 		{"domain zone", api.OK}, {"domain rack\ndomain zone", api.ErrTwice}, {"domain rack\ndomain host", api.ErrForm},
 		{"self", api.ErrForm}, {"self 1.1.1.1 2.2.2.2", api.ErrForm}, {"self 1.1.1", api.ErrAddr}, {"self 1.1.1.1", api.ErrTwice}, {"self ::2", api.ErrTwice}, {"self 0.0.0.0", api.ErrTwice},
 		{"level", api.ErrForm}, {"level a b", api.ErrForm}, {"level h", api.ErrTwice}, {"level l", api.ErrTwice}, {"level a/b", api.OK}, {"level a\nlevel a", api.ErrTwice},

@@ -169,6 +169,26 @@ func TestTimeoutComesFirst(t *testing.T) { // 22.2
 	}
 }
 
+func TestGreatestId(t *testing.T) { // 22.1, 22.2, 22.3
+	b := board(t, Rule{2, 1, 1, 1}, 0, MaxId)
+	b.Tick()
+	b.Answer(0, true)
+	b.Answer(MaxId, true)
+	b.Tick()
+	if asked, _ := b.Tick(); !slices.Equal(asked, []int{0, MaxId}) {
+		t.Fatal(asked)
+	}
+	b.Rename(map[int]int{0: MaxId, MaxId: 0})
+	b.Answer(0, true)
+	asked, changes := b.Tick()
+	if len(asked) != 0 || !slices.Equal(changes, []Change{{At: 4, Id: MaxId}}) || !slices.Equal(b.Up(), []int{0}) {
+		t.Fatal(asked, changes)
+	}
+	if asked, _ := b.Tick(); !slices.Equal(asked, []int{0, MaxId}) {
+		t.Fatal(asked)
+	}
+}
+
 func TestRename(t *testing.T) { // 22.3
 	b := board(t, Rule{10, 4, 1, 1}, 1, 2, 3)
 	b.Tick()

@@ -50,7 +50,7 @@ func TestNumber(t *testing.T) { // 17.2
 		ok   bool
 	}{
 		{"0", 0, 0, true}, {"0", -1, 0, false}, {"7", 7, 7, true}, {"8", 7, 0, false}, {"10", 10, 10, true}, {"999999999999999999", math.MaxInt, 999999999999999999, true}, {"1000000000000000000", math.MaxInt, 0, false},
-		{"", 9, 0, false}, {"00", 9, 0, false}, {"01", 9, 0, false}, {"+1", 9, 0, false}, {"-1", 9, 0, false}, {"1 ", 9, 0, false}, {"1a", 99, 0, false}, {"0x1", 9, 0, false}, {"1_0", 99, 0, false}, {"/", 9, 0, false}, {":", 99, 0, false},
+		{"", 9, 0, false}, {"00", 9, 0, false}, {"01", 9, 0, false}, {"+1", 9, 0, false}, {"-1", 9, 0, false}, {"1 ", 9, 0, false}, {"1a", 99, 0, false}, {"0x1", 9, 0, false}, {"1_0", 99, 0, false}, {"/", math.MaxInt, 0, false}, {"1/", math.MaxInt, 0, false}, {"+1", math.MaxInt, 0, false}, {"1:", math.MaxInt, 0, false}, {":", 99, 0, false},
 		{"99999999999999999999999", math.MaxInt, 0, false}, {"٣", 9, 0, false},
 	} {
 		if n, ok := Number(c.w, c.most); n != c.n || ok != c.ok {

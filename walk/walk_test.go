@@ -213,6 +213,9 @@ func TestNone(t *testing.T) { // 26.2
 			if i == 1 && set == s {
 				continue
 			}
+			if len(w.Down(set, 20, 1)) != 0 {
+				t.Error("the host itself", i)
+			}
 			if w.Step(set, 0, 1) != -1 || len(w.Down(set, 0, 1)) != 0 || len(w.Loads(set, 0)) != 0 || w.Level(set, 0, 1) != -1 || w.Host(set, 0, 1) != -1 || len(w.Copies(set, 0, 1, 5, 2)) != 0 {
 				t.Error(i)
 			}
