@@ -53,6 +53,11 @@ func tuple(n, proto int) api.Tuple {
 	return api.Tuple{Proto: proto, Src: addr.V4(uint32(n)), Dst: addr.V4(0x0a000001), SPort: 5, DPort: 80}
 }
 
+func segment(n int) []byte {
+	b, _ := pkt.Segment(tuple(n, api.Tcp), 9, 2, nil)
+	return b
+}
+
 func TestBackends(t *testing.T) { // 40.1
 	m := well(t, "a", "b", "c", "d")
 	at := m.Conf().Find
@@ -112,7 +117,14 @@ func TestCheck(t *testing.T) { // 40.1
 			t.Error(i, got)
 		}
 	}
-	m := machine(t)
+	m := well(t, "a")
+	for n := range 9 {
+		m.Do(api.Op{Kind: api.OpPacket, Data: segment(n)})
+	}
+	if m.Pins().Len() != 5 || !Check(m).OK() {
+		t.Error("as many as may be")
+	}
+	m = machine(t)
 	m.Pins().Pin(tuple(1, 17), 3, 0)
 	if Check(m) != (Told{Flows: true}) {
 		t.Error("flows without a configuration")

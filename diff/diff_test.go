@@ -31,6 +31,8 @@ func TestOf(t *testing.T) { // 43.1
 		{func(l []api.Node) []api.Node { l[2].Kind = 3; return l }, []Change{{"y", Place}}},
 		{func(l []api.Node) []api.Node { l[0].Above = 5; return l }, []Change{{"l", Place}}},
 		{func(l []api.Node) []api.Node { l[0].Above = 99; return l }, nil},
+		{func(l []api.Node) []api.Node { l[0].Above = 7; return l }, nil},
+		{func(l []api.Node) []api.Node { l[0].Above = 6; return l }, []Change{{"l", Place}}},
 		{func(l []api.Node) []api.Node { l[3].Name = "s"; return l }, []Change{{"r", Gone}, {"s", New}, {"a", Place}}},
 		{func(l []api.Node) []api.Node { return nil }, []Change{{"l", Gone}, {"z", Gone}, {"y", Gone}, {"r", Gone}, {"q", Gone}, {"a", Gone}, {"b", Gone}}},
 		{func(l []api.Node) []api.Node {

@@ -26,7 +26,7 @@ func TestRight(t *testing.T) { // 35.1
 		change func(p *Plan)
 		want   bool
 	}{
-		{func(p *Plan) {}, true}, {func(p *Plan) { p.Clients = 0 }, false}, {func(p *Plan) { p.Clients = 65536 }, true}, {func(p *Plan) { p.Clients = 65537 }, false}, {func(p *Plan) { p.Ports = 0 }, false}, {func(p *Plan) { p.Ports = 32768 }, true},
+		{func(p *Plan) {}, true}, {func(p *Plan) { p.Clients = 0 }, false}, {func(p *Plan) { p.Clients, p.Ports = 1, 1 }, true}, {func(p *Plan) { p.Clients = 65536 }, true}, {func(p *Plan) { p.Clients = 65537 }, false}, {func(p *Plan) { p.Ports = 0 }, false}, {func(p *Plan) { p.Ports = 32768 }, true},
 		{func(p *Plan) { p.Ports = 32769 }, false}, {func(p *Plan) { p.Most = -1 }, false}, {func(p *Plan) { p.Most = 0 }, true}, {func(p *Plan) { p.Most = 1400 }, true}, {func(p *Plan) { p.Most = 1401 }, false}, {func(p *Plan) { p.Vip.Addr.Lo = 1 << 32 }, false},
 		{func(p *Plan) { p.Vip.Proto = 1 }, false}, {func(p *Plan) { p.Vip.Port = -1 }, false}, {func(p *Plan) { p.Vip.Port = 0 }, true}, {func(p *Plan) { p.Vip.Port = 65535 }, true}, {func(p *Plan) { p.Vip.Port = 65536 }, false}, {func(p *Plan) { p.Vip.Copies = -9 }, true},
 	} {

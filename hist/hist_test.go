@@ -147,7 +147,9 @@ func TestMany(t *testing.T) { // up to 2^63 numbers
 func TestNone(t *testing.T) { // 38.2
 	var h *Hist
 	h.Add(1)
-	h.Join(&Hist{})
+	var one Hist
+	one.Add(1)
+	h.Join(&one)
 	h.Clear()
 	least, most := h.Ends()
 	if h.Len() != 0 || least != 0 || most != 0 || h.Mean() != 0 || h.Count(0) != 0 || h.Quantile(0) != -1 {

@@ -106,7 +106,7 @@ func TestTake(t *testing.T) { // 45.2
 	if x.Wait(b, 0) != 0 || x.Wait(b, 3) != 2 || x.Wait(b, 6) != -1 || x.Wait(b, -1) != -1 || x.Wait(none, -1) != -1 || x.Wait(none, 99) != 0 || x.Wait(a, 1) != -1 {
 		t.Error("Wait")
 	}
-	if x.Go(1) != api.OK || x.Have(1) != 2 || x.Have(0) != 0 || x.Wait(none, 99) != 1 || x.Wait(b, 3) != 2 {
+	if x.Go(1) != api.OK || x.Go(1) != api.OK || x.Have(1) != 2 || x.Have(0) != 0 || x.Wait(none, 99) != 1 || x.Wait(b, 3) != 2 {
 		t.Error("Go")
 	}
 	for _, now := range []int64{0, -1, math.MinInt64, 1<<40 + 1, math.MaxInt64} {

@@ -39,6 +39,7 @@ host d r2 1 10.1.0.4
 vip 10.0.0.1 tcp 80
 vip 10.0.0.1 udp 53 copies 3
 vip 10.0.0.2 udp 0 nat
+vip 10.0.0.3 udp 53 copies 2
 vip 2001:db8::1 tcp 0
 view 9.0.0.0/8 1
 `
@@ -114,6 +115,9 @@ func TestErrors(t *testing.T) { // 32.1, 32.2
 	for i, q := range []*Path{nil, {}, {Conf: p.Conf, Vips: p.Vips, Set: p.Set, Walker: p.Walker}, {Conf: p.Conf, Vips: p.Vips, Set: p.Set, Pins: p.Pins}, {Conf: p.Conf, Vips: p.Vips, Walker: p.Walker, Pins: p.Pins},
 		{Conf: p.Conf, Set: p.Set, Walker: p.Walker, Pins: p.Pins}, {Vips: p.Vips, Set: p.Set, Walker: p.Walker, Pins: p.Pins}} {
 		outs, way, e := q.Take(syn(plain, 80, 9))
+		if _, _, g := q.Take(nil); g != api.ErrState {
+			t.Error("ErrState is first", i, g)
+		}
 		found, f := q.Find(pkt.Packet{})
 		if e != api.ErrState || outs != nil || !reflect.DeepEqual(way, Way{}) || f != api.ErrState || !reflect.DeepEqual(found, Way{}) || q.Key(api.Tuple{}) != 0 {
 			t.Error(i, e, f)
@@ -178,6 +182,15 @@ func TestPinned(t *testing.T) { // 32.1, 32.2, 32.3
 	}
 }
 
+func TestLeastTimeToLive(t *testing.T) { // 32.1
+	p := path(t, "a")
+	outs, _, e := p.Take(packet(t, api.Tcp, near, plain, 80, 2, tcp.Syn))
+	if e != api.OK || len(outs) != 1 {
+		t.Fatal(e)
+	}
+	opened(t, p, outs[0], packet(t, api.Tcp, near, plain, 80, 2, tcp.Syn))
+}
+
 func TestPinnedToNoHost(t *testing.T) { // 32.1
 	p := path(t, "d")
 	b := packet(t, api.Tcp, near, plain, 80, 9, tcp.Ack)
@@ -212,6 +225,13 @@ func TestCopies(t *testing.T) { // 32.1, 32.2
 			}
 			opened(t, p, out, b)
 		}
+	}
+}
+
+func TestTwoCopies(t *testing.T) { // 32.2: nothing is pinned then
+	p := path(t, "a", "b", "c", "d")
+	if outs, _, e := p.Take(packet(t, api.Udp, near, addr.V4(0x0a000003), 53, 9, 0)); e != api.OK || len(outs) != 2 || p.Len() != 0 {
+		t.Error(e, len(outs), p.Len())
 	}
 }
 

@@ -57,6 +57,10 @@ func TestNew(t *testing.T) { // 42.2
 	if Hosts(m) != "" || Loads(m) != "" || Flows(m) != "" || Counts(m) != "in 0 out 0 bytes 0\n" {
 		t.Error("without a configuration")
 	}
+	m.Pins().Pin(api.Tuple{Proto: api.Udp}, 3, 0)
+	if got := Flows(m); strings.Join(strings.Fields(got), " ") != "flow udp 0.0.0.0 0 0.0.0.0 0 datagram 50" {
+		t.Error(got)
+	}
 	for i, m := range []*step.Machine{nil, {}} {
 		if Hosts(m) != "" || Loads(m) != "" || Flows(m) != "" || Of(m) != "" || Counts(m) != "in 0 out 0 bytes 0\n" {
 			t.Error("nil", i)

@@ -306,6 +306,22 @@ func TestConfig(t *testing.T) { // 33.1, 33.4
 	told(t, m, tick(2), api.Told{N: 1}) // a, as it was due: at 4
 }
 
+func TestFactor(t *testing.T) { // 33.1: the path's walker has the Factor of the configuration
+	m := well(t)
+	a := m.Path()
+	if a.Factor != 140 || a.Seed != 11 || a.Conf != m.Conf() || a.Pins != m.Pins() || len(a.Vips.List()) != 2 || !slices.Equal(a.Set.List(), m.Board.Up()[:3]) {
+		t.Fatal("path")
+	}
+	m.Do(config("factor 900\n" + strings.Replace(text, "tcp 80", "tcp 81", 1)))
+	if b := m.Path(); b.Factor != 900 || b.Vips.List()[0].Port != 81 || b.Conf != m.Conf() || a.Factor != 140 {
+		t.Fatal("another configuration")
+	}
+	m.Do(config(text))
+	if b := m.Path(); b.Factor != 140 || b.Vips.List()[0].Port != 80 {
+		t.Fatal("and back")
+	}
+}
+
 func TestDrainWeight(t *testing.T) { // 33.1, 33.3
 	m := well(t)
 	for _, c := range []struct {

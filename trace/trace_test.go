@@ -49,6 +49,19 @@ func TestShares(t *testing.T) { // 41.2
 	}
 }
 
+func TestOrder(t *testing.T) { // 41.2
+	var l Log
+	for i := range 26 {
+		l.Note(api.Op{}, told(api.Errno(i*11%26), i*7%26))
+	}
+	errs, shares := l.Errs(), l.Shares()
+	for i := range 26 {
+		if errs[i] != [2]int{i, 1} || shares[i].Host != i {
+			t.Fatal(errs, shares)
+		}
+	}
+}
+
 func TestMoves(t *testing.T) { // 41.2
 	for i, c := range []struct {
 		rows        [][]int
