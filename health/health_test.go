@@ -113,6 +113,20 @@ func TestAnswers(t *testing.T) { // 22.2
 	}
 }
 
+func TestDue(t *testing.T) { // 22.2: what is due of a host is its next asking, and an answer that is waited for
+	b := board(t, Rule{Every: 5, Timeout: 2, Rise: 1, Fall: 1}, 1, 2)
+	for i, next := range []int64{1, 3, 6, 6, 6, 6, 8} {
+		if b.Next() != next {
+			t.Fatal(i, b.Next())
+		}
+		b.Tick()
+		b.Answer(1, true)
+		if i == 1 {
+			b.Answer(2, true)
+		}
+	}
+}
+
 func TestTimeouts(t *testing.T) { // 22.2, 22.5
 	for _, r := range []Rule{{1, 1, 1, 1}, {1, 1, 1, 3}, {3, 3, 2, 2}, {5, 2, 1, 2}, {7, 7, 1, 1}} {
 		b := board(t, r, 4, 2)
