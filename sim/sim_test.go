@@ -180,6 +180,14 @@ func TestAllSick(t *testing.T) { // where all hosts are sick no packet goes out
 	}
 }
 
+func TestNobody(t *testing.T) { // 46.1, 46.2: a name that no host has changes nothing of what hosts answer
+	a, b := simulate(t, api.Udp, 53), simulate(t, api.Udp, 53)
+	a.Sicken(true, "nobody", "", "z0")
+	if got, want := a.Run(9, 5), b.Run(9, 5); got != want || !reflect.DeepEqual(a.Log, b.Log) {
+		t.Error(got, want)
+	}
+}
+
 func TestNone(t *testing.T) { // 46.2
 	for _, x := range []*Sim{nil, {}} {
 		x.Sicken(true, "a")
