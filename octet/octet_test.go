@@ -31,12 +31,12 @@ func TestPut(t *testing.T) { // 7.1
 
 func TestAt(t *testing.T) { // 7.1
 	b := []byte{1, 2, 3, 4, 5, 6, 7, 8, 9, 10}
-	for at := -10; at < 14; at++ {
+	for at := range 14 {
 		for size := -1; size <= 10; size++ {
 			want := uint64(0)
 			for i := at; i < at+min(max(size, 0), 8); i++ {
 				want *= 256
-				if i >= 0 && i < len(b) {
+				if i < len(b) {
 					want += uint64(b[i])
 				}
 			}
@@ -45,7 +45,24 @@ func TestAt(t *testing.T) { // 7.1
 			}
 		}
 	}
-	if At(b, math.MaxInt, 8) != 0 || At(b, math.MinInt, 8) != 0 || At(nil, 0, 8) != 0 || At(b, 0, math.MaxInt) != 0x0102030405060708 {
+	if At(b, math.MaxInt, 8) != 0 || At(b, len(b), math.MaxInt) != 0 || At(nil, 0, 8) != 0 || At(nil, 1, 8) != 0 || At(b, 0, math.MaxInt) != 0x0102030405060708 || At(b, 0, math.MinInt) != 0 {
+		t.Error("edges")
+	}
+}
+
+func TestAtBelow(t *testing.T) { // 7.1, R5
+	b := []byte{2, 3, 7, 44}
+	for _, at := range []int{-1, -2, -7, -8, -9, math.MinInt, math.MinInt + 1} {
+		for _, size := range []int{math.MinInt, -1, 0, 1, 2, 3, 7, 8, 9, math.MaxInt} {
+			if got := At(b, at, size); got != 0 {
+				t.Error(at, size, got)
+			}
+			if got := At(b[:1], at, size) + At(nil, at, size); got != 0 {
+				t.Error("of fewer", at, size, got)
+			}
+		}
+	}
+	if At([]byte{1}, -1, 2) != 0 || At([]byte{1}, 0, 2) != 256 || At(b, 3, 2) != 44*256 || At(b, 4, 2) != 0 {
 		t.Error("edges")
 	}
 }
