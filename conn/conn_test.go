@@ -27,7 +27,7 @@ func TestRule(t *testing.T) { // 28.1
 			t.Error("Idle", state, got)
 		}
 	}
-	for state, want := range map[int]string{-1: "", 0: "", 1: "opening", 2: "open", 3: "closing", 4: "closed", 5: "datagram", 6: "", math.MaxInt: "", math.MinInt: ""} {
+	for state, want := range map[int]string{-1: "none", 0: "none", 1: "opening", 2: "open", 3: "closing", 4: "closed", 5: "datagram", 6: "none", 9: "none", math.MaxInt: "none", math.MinInt: "none"} {
 		if got := Name(state); got != want {
 			t.Error("Name", state, got)
 		}

@@ -7,6 +7,7 @@ import (
 	"distributary/addr"
 	"distributary/api"
 	"distributary/conn"
+	"distributary/flow"
 	"distributary/health"
 	"distributary/pkt"
 	"distributary/step"
@@ -64,6 +65,18 @@ func TestNew(t *testing.T) { // 42.2
 	for i, m := range []*step.Machine{nil, {}} {
 		if Hosts(m) != "" || Loads(m) != "" || Flows(m) != "" || Of(m) != "" || Counts(m) != "in 0 out 0 bytes 0\n" {
 			t.Error("nil", i)
+		}
+	}
+}
+
+func TestStates(t *testing.T) { // 42.1, 28.1
+	m := machine(t)
+	m.Do(api.Op{Kind: api.OpConfig, Data: []byte(text)})
+	host := m.Conf().Find("a")
+	for state, want := range map[int]string{-1: "none", 0: "none", conn.Opening: "opening", conn.Open: "open", conn.Closing: "closing", conn.Closed: "closed", conn.Datagram: "datagram", 6: "none"} {
+		m.Pins().Put(flow.Entry{Tuple: api.Tuple{Proto: api.Udp}, Host: host, State: state, Until: 7})
+		if got := Flows(m); got != "flow udp 0.0.0.0 0 0.0.0.0 0 a "+want+" 7\n" {
+			t.Error(state, got)
 		}
 	}
 }
